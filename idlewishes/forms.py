@@ -1,14 +1,17 @@
-"""The plainest forms of values, which several files look for."""
+"""The plainest forms of values, which several files look for or make."""
 
 MOST_MARK = 3
 
 
+def is_whole(value):
+    """Whether any value is an integer."""
+    # To Python, True and False are integers, too.
+    return isinstance(value, int) and not isinstance(value, bool)
+
+
 def is_number(value, least, most):
     """Whether any value is an integer from least to most."""
-    # To Python, True and False are integers, too.
-    if isinstance(value, bool) or not isinstance(value, int):
-        return False
-    return least <= value <= most
+    return is_whole(value) and least <= value <= most
 
 
 def is_ascending(value, most):
@@ -19,3 +22,11 @@ def is_ascending(value, most):
     if not all([is_number(item, 0, most) for item in value]):
         return False
     return all([low < high for low, high in zip(value, value[1:])])
+
+
+def all_lots(many):
+    """All ascending tuples of numbers from 0 on, below many; these ascending, too."""
+    lots = [()]
+    for number in range(many):
+        lots = lots + [lot + (number,) for lot in lots]
+    return sorted(lots)

@@ -29,7 +29,12 @@ def need_run(machine, run):
 
 def is_run(machine, value):
     """Whether any value is a run of the machine."""
-    starts, ways, marks = need_machine(machine)
+    return goes_along(need_machine(machine), value)
+
+
+def goes_along(machine, value):
+    """Whether any value is a run of the machine; the machine is not checked."""
+    starts, ways, marks = machine
     if not _is_pair_of_rows(value):
         return False
     ahead, ring = value

@@ -10,8 +10,8 @@ LAST_MOMENT = 10 ** 30
 
 def worths(machine, wish, run):
     """For each standing of AHEAD, then of RING, whether the wish is so there."""
-    marks = _marks_on(machine, wish, run)
-    return tuple(worth_row(wish, marks, len(run[0])))
+    _need_all(machine, wish, run)
+    return tuple(worth_row(wish, marks_along(machine, run), len(run[0])))
 
 
 def keeps_run(machine, wish, run):
@@ -32,9 +32,16 @@ def worth_at(machine, wish, run, moment):
 
 def fingerprints(machine, wish, run):
     """The pairs of each path and whether the part there is so at first."""
-    marks = _marks_on(machine, wish, run)
+    _need_all(machine, wish, run)
+    marks = marks_along(machine, run)
     back = len(run[0])
     return tuple([(path, worth_row(part, marks, back)[0]) for path, part in walked(wish)])
+
+
+def marks_along(machine, run):
+    """The list of the marks at each standing of the run; nothing is checked."""
+    ahead, ring = run
+    return [machine[2][standing] for standing in ahead + ring]
 
 
 def worth_row(part, marks, back):
@@ -84,9 +91,8 @@ def _till(first, second, back):
     return row
 
 
-def _marks_on(machine, wish, run):
-    """The marks at each standing of the run, when all three are checked."""
+def _need_all(machine, wish, run):
+    """What is raised for the first of the three that is wrong."""
     need_machine(machine)
     need_wish(wish)
-    ahead, ring = need_run(machine, run)
-    return [machine[2][standing] for standing in ahead + ring]
+    need_run(machine, run)

@@ -41,14 +41,8 @@ def need_wish(wish):
 def need_path(wish, path):
     """The path itself; BadPath for any value that is no path of the wish."""
     need_wish(wish)
-    if not isinstance(path, tuple):
+    if not is_path(wish, path):
         raise BadPath(path)
-    part = wish
-    for place in path:
-        # What stands in "mark" is no part.
-        if part[0] == "mark" or not is_number(place, 1, len(part) - 1):
-            raise BadPath(path)
-        part = part[place]
     return path
 
 
@@ -100,7 +94,24 @@ def hardened(wish, path):
 
 def timed_parts(wish):
     """The tuple of the unlike timed parts, in the order of their first paths."""
-    need_wish(wish)
+    return unlike_timed(need_wish(wish))
+
+
+def is_path(wish, value):
+    """Whether any value is a path of the wish, which is not checked."""
+    if not isinstance(value, tuple):
+        return False
+    part = wish
+    for place in value:
+        # What stands in "mark" is no part.
+        if part[0] == "mark" or not is_number(place, 1, len(part) - 1):
+            return False
+        part = part[place]
+    return True
+
+
+def unlike_timed(wish):
+    """The tuple of the unlike timed parts, in their order; nothing is checked."""
     found = []
     for _, part in walked(wish):
         if part[0] in TIMED and part not in found:

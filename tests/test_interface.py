@@ -3,8 +3,8 @@
 import inspect
 import unittest
 
-from idlewishes import errors, machines, values, wishes
-from idlewishes.errors import BadMachine, BadNumber, BadPath, BadRun, BadWish, WishError
+from idlewishes import errors, idle, keeping, lots, machines, twice, values, wishes
+from idlewishes.errors import BadMachine, BadNumber, BadPaper, BadPath, BadRun, BadWish, TooGreat, WishError
 from tests.samples import A, FALSE, LASSO, ODD, TRUTHS, Case, outcome
 
 # Each function with its parameters, in their order.
@@ -33,6 +33,43 @@ FUNCTIONS = {
         "worth_at": ("machine", "wish", "run", "moment"),
         "fingerprints": ("machine", "wish", "run"),
     },
+    keeping: {
+        "keeps": ("machine", "wish"),
+        "failing_run": ("machine", "wish"),
+        "keep_paper": ("machine", "wish"),
+        "check_keep": ("machine", "wish", "paper"),
+    },
+    idle: {
+        "is_idle": ("machine", "wish", "path"),
+        "idle_parts": ("machine", "wish"),
+        "passes_idly": ("machine", "wish"),
+        "highest_idle": ("machine", "wish"),
+        "interesting_run": ("machine", "wish", "path"),
+        "idle_paper": ("machine", "wish", "path"),
+        "check_idle": ("machine", "wish", "path", "paper"),
+        "softened": ("wish", "path"),
+        "rests_on": ("machine", "wish", "path"),
+        "blamed_parts": ("machine", "wish"),
+    },
+    twice: {
+        "places": ("wish", "part"),
+        "has_one_sign": ("wish", "part"),
+        "freed": ("wish", "part"),
+        "doubled": ("machine",),
+        "is_idle_by_moments": ("machine", "wish", "part"),
+        "is_idle_by_standings": ("machine", "wish", "part"),
+        "is_idle_by_constants": ("machine", "wish", "part"),
+        "breaking_lot": ("machine", "wish", "part"),
+        "moments_paper": ("machine", "wish", "part"),
+        "check_moments": ("machine", "wish", "part", "paper"),
+    },
+    lots: {
+        "hardened_at": ("wish", "lot"),
+        "are_idle": ("machine", "wish", "lot"),
+        "idle_lots": ("machine", "wish"),
+        "cleared": ("wish",),
+        "harder_wishes": ("machine", "wish"),
+    },
 }
 CLASSES = {
     "WishError": None,
@@ -56,6 +93,13 @@ GOOD = {
     "run": ((0,), (1, 2)),
     "value": ((0,), (1, 2)),
     "moment": 4,
+    "lot": ((1, 1), (1, 2, 1)),
+}
+# What holds only for one function.
+GOOD_FOR = {
+    "check_keep": {"paper": keeping.keep_paper(GOOD["machine"], GOOD["wish"])},
+    "check_idle": {"paper": idle.idle_paper(GOOD["machine"], GOOD["wish"], GOOD["path"])},
+    "check_moments": {"paper": twice.moments_paper(GOOD["machine"], GOOD["wish"], GOOD["part"])},
 }
 # For each parameter the error that is raised, and wrong values with the field that is told.
 WRONG = {
@@ -65,7 +109,15 @@ WRONG = {
     "part": (BadWish, ((("or", A, ("no",)), (2,)), (None, ()))),
     "run": (BadRun, ((((), (1, 2)), ((), (1, 2))), (None, None))),
     "moment": (BadNumber, ((-1, -1), (None, None), (10 ** 30 + 1, 10 ** 30 + 1))),
+    "lot": (BadPath, ((((1,), (1, 1)), ((1,), (1, 1))), (None, None), (((2,),), ((2,),)))),
+    "paper": (BadPaper, ((None, "form"), ((), "form"), (("yes", ()), "form"))),
 }
+
+
+def good_for(name, names):
+    """Arguments that a function takes, in their order."""
+    table = {**GOOD, **GOOD_FOR.get(name, {})}
+    return [table[parameter] for parameter in names]
 
 
 def all_functions():
@@ -98,17 +150,17 @@ class TestInterface(Case):
 
     def test_by_position_and_by_name(self):
         for name, call, names in all_functions():
-            args = [GOOD[parameter] for parameter in names]
+            args = good_for(name, names)
             told = self.same_again(call, *args)
             for many in range(len(names)):
-                rest = {parameter: GOOD[parameter] for parameter in names[many:]}
+                rest = dict(list(zip(names, args))[many:])
                 self.assertEqual(call(*args[:many], **rest), told, name)
                 turned = {parameter: rest[parameter] for parameter in reversed(list(rest))}
                 self.assertEqual(call(*args[:many], **turned), told, name)
 
     def test_first_wrong_argument(self):
         for name, call, names in all_functions():
-            args = [GOOD[parameter] for parameter in names]
+            args = good_for(name, names)
             for at, parameter in enumerate(names):
                 if parameter not in WRONG:
                     continue
@@ -131,7 +183,7 @@ class TestInterface(Case):
                     continue
                 error, _ = WRONG[parameter]
                 for value in ODD + TRUTHS:
-                    args = [GOOD[other] for other in names]
+                    args = good_for(name, names)
                     args[at] = value
                     with self.assertRaises(error) as caught:
                         call(*args)
@@ -139,6 +191,8 @@ class TestInterface(Case):
                     field = list(vars(caught.exception).values())[0]
                     if error in (BadMachine, BadWish):
                         self.assertEqual(field, ())
+                    elif error is BadPaper:
+                        self.assertEqual(field, "form")
                     else:
                         self.assertIs(field, value)
 
@@ -146,12 +200,13 @@ class TestInterface(Case):
         for name, call, names in all_functions():
             for at, parameter in enumerate(names):
                 if parameter in WRONG:
-                    args = [GOOD[other] for other in names]
+                    good = good_for(name, names)
+                    args = list(good)
                     args[at] = WRONG[parameter][1][0][0]
                     first = outcome(call, *args)
                     self.assertNotEqual(first[0], "returns")
                     self.assertEqual(first, outcome(call, *args))
-                    args[at] = GOOD[parameter]
+                    args[at] = good[at]
                     self.assertEqual(outcome(call, *args)[0], "returns")
 
     def test_replaced_tells_the_wish_ahead_of_path_and_part(self):
@@ -165,6 +220,14 @@ class TestInterface(Case):
         for value in ODD + TRUTHS + (((), (0,)),):
             self.refuses(BadMachine, (), machines.is_run, None, value)
             self.refuses(BadMachine, (2,), machines.is_run, ((0,), ((0,),), ()), value)
+
+    def test_too_many_standings_come_last(self):
+        many = ((0,), ((0,),) * 7, ((),) * 7)
+        for call in (twice.breaking_lot, twice.is_idle_by_standings):
+            self.refuses(TooGreat, 6, call, many, A, A)
+            self.refuses(BadMachine, (1,), call, (many[0], many[1][1:], many[2]), None, None)
+            self.refuses(BadWish, (1,), call, many, ("no", None), None)
+            self.refuses(BadWish, (2,), call, many, A, ("or", A, None))
 
     def test_path_belongs_to_the_wish(self):
         self.refuses(BadPath, (1,), wishes.part_at, FALSE, (1,))
