@@ -30,3 +30,8 @@ def all_lots(many):
     for number in range(many):
         lots = lots + [lot + (number,) for lot in lots]
     return sorted(lots)
+
+
+def lots_by_size(many):
+    """All ascending tuples of numbers from 0 on, below many; the shorter ones first, those of one size ascending."""
+    return sorted(all_lots(many), key=lambda lot: (len(lot), lot))

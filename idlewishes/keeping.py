@@ -76,9 +76,9 @@ def run_against(machine, wish):
 def paper_on(machine, wish, words):
     """A paper that begins with one of these two words; nothing is checked."""
     nodes = Nodes(machine, wish)
-    bands = bands_behind(nodes.after, _bad_begins(nodes))
+    bands = bands_behind(nodes.after, bad_begins(nodes))
     for band in bands:
-        if is_round(nodes.after, band) and _spot(nodes, band) is None:
+        if can_stay(nodes, band):
             return (words[1], _run_to(nodes, band))
     return (words[0], _table(nodes, bands))
 
@@ -126,6 +126,16 @@ def bands_behind(after, begins):
 def is_round(after, band):
     """Whether one can go along arrows in a band for ever."""
     return len(band) > 1 or band[0] in after[band[0]]
+
+
+def can_stay(nodes, band):
+    """Whether one can go along arrows in a band for ever, with no timed part pending all the way."""
+    return is_round(nodes.after, band) and _spot(nodes, band) is None
+
+
+def bad_begins(nodes):
+    """The nodes of STARTS at which the wish is not so."""
+    return [node for node in nodes.begins if not nodes.so[node]]
 
 
 def _steps(wish):
@@ -237,11 +247,6 @@ def _lot_ahead(steps, there, brought):
     return tuple(sorted(lot))
 
 
-def _bad_begins(nodes):
-    """The nodes of STARTS at which the wish is not so."""
-    return [node for node in nodes.begins if not nodes.so[node]]
-
-
 def _band_of(first, ahead, seen):
     """The nodes not seen so far from which arrows lead to this one; they are seen then."""
     band = []
@@ -301,7 +306,7 @@ def _run_to(nodes, band):
     """
     inside = {node: True for node in band}
     after = {node: [then for then in nodes.after[node] if then in inside] for node in band}
-    ahead = _shortest_way(nodes.after, _bad_begins(nodes), inside)
+    ahead = _shortest_way(nodes.after, bad_begins(nodes), inside)
     first = ahead[-1]
     ring = [first]
     for number in nodes.pending[first]:
@@ -337,7 +342,7 @@ def _table_holds(machine, wish, table):
         return False
     nodes = Nodes(machine, wish)
     held = {(standing, lot): (rank, spot) for standing, lot, rank, spot in table}
-    if not all([node in held for node in _bad_begins(nodes)]):
+    if not all([node in held for node in bad_begins(nodes)]):
         return False
     return all([_leads_down(nodes, held, node, then) for node in held for then in nodes.after[node]])
 

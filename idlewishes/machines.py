@@ -35,7 +35,7 @@ def is_run(machine, value):
 def goes_along(machine, value):
     """Whether any value is a run of the machine; the machine is not checked."""
     starts, ways, marks = machine
-    if not _is_pair_of_rows(value):
+    if not is_pair_of_rows(value):
         return False
     ahead, ring = value
     row = ahead + ring
@@ -45,6 +45,16 @@ def goes_along(machine, value):
         return False
     steps = list(zip(row, row[1:] + ring[:1]))
     return all([then in ways[now] for now, then in steps])
+
+
+def is_pair_of_rows(value):
+    """Whether any value is a pair of tuples as long as those of a run."""
+    if not isinstance(value, tuple) or len(value) != 2:
+        return False
+    ahead, ring = value
+    if not isinstance(ahead, tuple) or not isinstance(ring, tuple):
+        return False
+    return len(ring) > 0 and len(ahead) + len(ring) <= MOST_TOGETHER
 
 
 def reached(machine):
@@ -104,13 +114,3 @@ def _need_ways(ways, many):
 def _are_standings(value, many):
     """Whether any value is an ascending tuple of one or more of so many standings."""
     return is_ascending(value, many - 1) and len(value) > 0
-
-
-def _is_pair_of_rows(value):
-    """Whether any value is a pair of tuples as long as those of a run."""
-    if not isinstance(value, tuple) or len(value) != 2:
-        return False
-    ahead, ring = value
-    if not isinstance(ahead, tuple) or not isinstance(ring, tuple):
-        return False
-    return len(ring) > 0 and len(ahead) + len(ring) <= MOST_TOGETHER

@@ -1,7 +1,7 @@
 """Parts that stand several times in a wish: what stands at all their places together."""
 
 from idlewishes.errors import TooGreat
-from idlewishes.forms import MOST_MARK, all_lots
+from idlewishes.forms import MOST_MARK, lots_by_size
 from idlewishes.idle import WORDS
 from idlewishes.keeping import is_kept, judged, paper_on
 from idlewishes.machines import need_machine
@@ -64,7 +64,7 @@ def breaking_lot(machine, wish, part):
     if many > MOST_SPLIT:
         raise TooGreat(MOST_SPLIT)
     wanted = _freed(wish, part)
-    for lot in sorted(all_lots(many), key=lambda lot: (len(lot), lot)):
+    for lot in lots_by_size(many):
         if not is_kept(_marked(machine, lot), wanted):
             return lot
     return None

@@ -18,6 +18,7 @@ WANTS = {
 TIMED = ("next", "till", "ever", "always")
 MOST_PARTS = 12
 MOST_TIMED = 5
+MOST_WISHES = 6
 
 
 def need_wish(wish):
@@ -36,6 +37,18 @@ def need_wish(wish):
             raise BadWish(())
         waiting += _within(path, part)[::-1]
     return wish
+
+
+def need_wishes(wishes):
+    """The wishes themselves; BadWish for any value that is no tuple of 1 to 6 wishes."""
+    if not isinstance(wishes, tuple) or not 1 <= len(wishes) <= MOST_WISHES:
+        raise BadWish(())
+    for number, wish in enumerate(wishes):
+        try:
+            need_wish(wish)
+        except BadWish as wrong:
+            raise BadWish((number,) + wrong.path) from None
+    return wishes
 
 
 def need_path(wish, path):
@@ -117,6 +130,11 @@ def unlike_timed(wish):
         if part[0] in TIMED and part not in found:
             found.append(part)
     return tuple(found)
+
+
+def marks_in(wish):
+    """The ascending list of the unlike marks that stand in the wish; nothing is checked."""
+    return sorted({part[1] for _, part in walked(wish) if part[0] == "mark"})
 
 
 def walked(wish):

@@ -2,7 +2,7 @@
 
 import itertools
 
-from tests.samples import FALSE, TRUE, plain_runs, plain_worths
+from tests.samples import FALSE, TRUE, plain_reached, plain_runs, plain_worth, plain_worths
 
 TIMED = ("next", "till", "ever", "always")
 WORDS = ("true", "false", "mark", "no", "and", "or") + TIMED
@@ -209,3 +209,154 @@ def plain_cleared(wish):
     if word in ("next", "ever", "always") and told[0] in constants:
         return told[0]
     return (word, *told)
+
+
+def plain_mark_runs(marks, most):
+    """All runs of marks of at most so many moments with these marks alone, the shorter ones first."""
+    lots = [tuple(marks[at] for at in lot) for lot in plain_lots(len(marks))]
+    for many in range(1, most + 1):
+        for row in itertools.product(lots, repeat=many):
+            for back in range(many):
+                yield row[:back], row[back:]
+
+
+def plain_keeps_marks(wish, run):
+    """Whether a run of marks keeps a wish."""
+    ahead, ring = run
+    return plain_worth(ahead + ring, len(ahead), wish, 0)
+
+
+def plain_marks(*wishes):
+    """The ascending list of the marks that stand in some wishes."""
+    return sorted({part[1] for wish in wishes for _, part in plain_walk(wish) if part[0] == "mark"})
+
+
+def plain_timed_together(one, other):
+    """How many unlike timed parts two wishes have together."""
+    return len(set(plain_timed(one)) | set(plain_timed(other)))
+
+
+def plain_turned(machine, standing, mark):
+    """The machine with a mark turned at a standing."""
+    starts, ways, marks = machine
+    return starts, ways, tuple(
+        tuple(sorted(set(there) ^ {mark})) if now == standing else there for now, there in enumerate(marks)
+    )
+
+
+def plain_with_way(machine, one, other):
+    """The machine with one more way."""
+    starts, ways, marks = machine
+    return starts, tuple(
+        tuple(sorted(set(after) | {other})) if now == one else after for now, after in enumerate(ways)
+    ), marks
+
+
+def plain_begins_of(machine, size):
+    """All begins of so many standings, ascending."""
+    rows = [()]
+    for _ in range(size):
+        rows = [row + (then,) for row in rows for then in (machine[1][row[-1]] if row else machine[0])]
+    return rows
+
+
+def plain_lasting(machine, timed):
+    """The nodes that lie on endless ways on which each timed part is again and again not pending.
+
+    What is left over when nodes are taken away that lead to no node any more
+    at which some timed part is not pending.
+    """
+    left = set(plain_nodes(machine, timed))
+    arrows = {
+        node: [then for then in left if plain_is_arrow(machine, timed, node, then)] for node in left
+    }
+    pending = {(node, at): plain_is_pending(machine, timed, at, node) for node in left for at in range(len(timed))}
+    while True:
+        before = set(left)
+        for at in [None, *range(len(timed))]:
+            ends = {node for node in left if at is None or not pending[(node, at)]}
+            good = set()
+            while True:
+                more = {
+                    node for node in left - good if any(then in left and then in ends | good for then in arrows[node])
+                }
+                if not more:
+                    break
+                good |= more
+            left = good
+        if left == before:
+            return left
+
+
+class PlainTeller:
+    """The words of begins, by the pairs of lots of lots as point 61 tells them."""
+
+    def __init__(self, machine, wish):
+        self.machine = machine
+        self.wish = wish
+        self.timed = plain_timed(wish)
+        self.lasting = plain_lasting(machine, self.timed)
+        self.known = {}
+
+    def pair(self, row):
+        """The lots that can be so at the end of a begin: those of runs that keep the wish, and of those that do not."""
+        row = tuple(row)
+        if row in self.known:
+            return self.known[row]
+        here = {lot for standing, lot in self.lasting if standing == row[-1]}
+        if len(row) == 1:
+            kept = {lot for lot in here if plain_so(self.machine, self.timed, self.wish, (row[-1], lot))}
+            told = (kept, here - kept)
+        else:
+            told = tuple(
+                {
+                    lot for lot in here
+                    if any(plain_is_arrow(self.machine, self.timed, (row[-2], old), (row[-1], lot)) for old in lots)
+                }
+                for lots in self.pair(row[:-1])
+            )
+        self.known[row] = told
+        return told
+
+    def word(self, row):
+        """The word of a begin."""
+        if len(row) == 0:
+            words = {self.word((start,)) for start in self.machine[0]}
+            return words.pop() if len(words) == 1 else "open"
+        kept, broken = self.pair(row)
+        if kept and broken:
+            return "open"
+        return "kept" if kept else "broken"
+
+    def is_always_told(self):
+        """Whether each begin can go on to one that is kept or broken: begins with equal pairs are looked at once."""
+        def key(row):
+            return row[-1], *(tuple(sorted(lots)) for lots in self.pair(row))
+
+        rows = {}
+        after = {}
+        waiting = [(start,) for start in self.machine[0]]
+        while waiting:
+            row = waiting.pop()
+            if key(row) not in rows:
+                rows[key(row)] = row
+                further = [row + (then,) for then in self.machine[1][row[-1]]]
+                after[key(row)] = [key(longer) for longer in further]
+                waiting += further
+        good = {at for at, row in rows.items() if self.word(row) != "open"}
+        for _ in rows:
+            good |= {at for at in rows if any(then in good for then in after[at])}
+        return len(good) == len(rows)
+
+
+def plain_unrolled(machine, row):
+    """What goes along a begin once, and then on as the machine does; it may have many standings."""
+    starts, ways, marks = machine
+    many = len(marks)
+    chain = tuple((many + at + 1,) for at in range(len(row) - 1)) + (ways[row[-1]],)
+    return (many,), ways + chain, marks + tuple(marks[now] for now in row)
+
+
+def plain_reached_pairs(machine):
+    """All pairs of a standing to which runs come and a mark."""
+    return tuple((standing, mark) for standing in plain_reached(machine) for mark in range(4))

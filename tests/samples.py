@@ -294,3 +294,34 @@ def some_run(chance, machine, most):
             at = chance.choice(closing)
             return tuple(row[:at]), tuple(row[at:])
         row.append(chance.choice(ways[row[-1]]))
+
+
+def lively(seed, many, keeps):
+    """So many pairs of a small machine and a wish of marks 0 and 1 that some runs keep and others do not.
+
+    keeps tells whether a machine keeps a wish.
+    """
+    chance = random.Random(seed)
+    pairs = []
+    while len(pairs) < many:
+        standings = range(chance.choice((2, 3, 3, 4)))
+
+        def some_of(row, least):
+            return tuple(sorted(chance.sample(row, chance.randint(least, min(3, len(row))))))
+
+        machine = (
+            some_of(standings, 1),
+            tuple(some_of(standings, 1) for _ in standings),
+            tuple(some_of(range(2), 0) for _ in standings),
+        )
+        wish = low_marks(some_wish(chance, chance.choice((4, 6, 9, 11)), chance.choice((1, 2, 3, 4)))[0])
+        if not keeps(machine, wish) and not keeps(machine, ("no", wish)):
+            pairs.append((machine, wish))
+    return pairs
+
+
+def low_marks(wish):
+    """The wish with the marks 0 and 1 for 2 and 3."""
+    if wish[0] == "mark":
+        return ("mark", wish[1] % 2)
+    return (wish[0], *(low_marks(inner) for inner in wish[1:]))

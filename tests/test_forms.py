@@ -2,7 +2,7 @@
 
 import unittest
 
-from idlewishes.forms import all_lots, is_ascending, is_number, is_whole
+from idlewishes.forms import all_lots, is_ascending, is_number, is_whole, lots_by_size
 from tests.plain import plain_lots
 from tests.samples import FAR, ODD, TRUTHS, Case
 
@@ -33,6 +33,12 @@ class TestForms(Case):
         self.assertEqual(all_lots(2), [(), (0,), (0, 1), (1,)])
         for many in range(6):
             self.assertEqual(all_lots(many), sorted(plain_lots(many)))
+
+    def test_lots_by_size(self):
+        self.assertEqual(lots_by_size(0), [()])
+        self.assertEqual(lots_by_size(3), [(), (0,), (1,), (2,), (0, 1), (0, 2), (1, 2), (0, 1, 2)])
+        for many in range(6):
+            self.assertEqual(lots_by_size(many), plain_lots(many))
 
 
 if __name__ == "__main__":

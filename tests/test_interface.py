@@ -3,8 +3,12 @@
 import inspect
 import unittest
 
-from idlewishes import errors, idle, keeping, lots, machines, twice, values, wishes
-from idlewishes.errors import BadMachine, BadNumber, BadPaper, BadPath, BadRun, BadWish, TooGreat, WishError
+from idlewishes import (
+    beside, errors, idle, keeping, lots, machines, monitors, shortest, touched, twice, values, wishes,
+)
+from idlewishes.errors import (
+    BadMachine, BadNumber, BadPaper, BadPath, BadRow, BadRun, BadWish, TooGreat, WishError,
+)
 from tests.samples import A, FALSE, LASSO, ODD, TRUTHS, Case, outcome
 
 # Each function with its parameters, in their order.
@@ -70,6 +74,36 @@ FUNCTIONS = {
         "cleared": ("wish",),
         "harder_wishes": ("machine", "wish"),
     },
+    beside: {
+        "follows": ("one", "other"),
+        "apart_run": ("one", "other"),
+        "is_apart_run": ("one", "other", "value"),
+        "are_alike": ("one", "other"),
+        "is_always_so": ("wish",),
+        "can_be_so": ("wish",),
+        "apart_on": ("machine", "one", "other"),
+        "follows_on": ("machine", "one", "other"),
+        "are_alike_on": ("machine", "one", "other"),
+        "needless_wishes": ("wishes",),
+    },
+    touched: {
+        "turned": ("machine", "standing", "mark"),
+        "with_way": ("machine", "one", "other"),
+        "touched": ("machine", "wish"),
+        "untouched": ("machine", "wishes"),
+        "fewest_wishes": ("machine", "wishes"),
+        "free_ways": ("machine", "wish"),
+    },
+    shortest: {
+        "shortest_failing": ("machine", "wish"),
+        "shortest_interesting": ("machine", "wish", "path"),
+    },
+    monitors: {
+        "verdict": ("machine", "wish", "row"),
+        "shortest_row": ("machine", "wish", "word"),
+        "is_always_told": ("machine", "wish"),
+        "count_rows": ("machine", "wish", "size", "word"),
+    },
 }
 CLASSES = {
     "WishError": None,
@@ -94,12 +128,22 @@ GOOD = {
     "value": ((0,), (1, 2)),
     "moment": 4,
     "lot": ((1, 1), (1, 2, 1)),
+    "one": ("always", ("or", ("no", A), ("next", A))),
+    "other": ("ever", A),
+    "wishes": (("ever", A), ("next", A), A, ("always", ("ever", ("mark", 1)))),
+    "standing": 2,
+    "mark": 0,
+    "row": (0, 1, 2, 1),
+    "word": "kept",
+    "size": 4,
 }
 # What holds only for one function.
 GOOD_FOR = {
     "check_keep": {"paper": keeping.keep_paper(GOOD["machine"], GOOD["wish"])},
     "check_idle": {"paper": idle.idle_paper(GOOD["machine"], GOOD["wish"], GOOD["path"])},
     "check_moments": {"paper": twice.moments_paper(GOOD["machine"], GOOD["wish"], GOOD["part"])},
+    "with_way": {"one": 1, "other": 0},
+    "is_apart_run": {"value": (((0,), (1,)), ((0, 1),))},
 }
 # For each parameter the error that is raised, and wrong values with the field that is told.
 WRONG = {
@@ -111,6 +155,19 @@ WRONG = {
     "moment": (BadNumber, ((-1, -1), (None, None), (10 ** 30 + 1, 10 ** 30 + 1))),
     "lot": (BadPath, ((((1,), (1, 1)), ((1,), (1, 1))), (None, None), (((2,),), ((2,),)))),
     "paper": (BadPaper, ((None, "form"), ((), "form"), (("yes", ()), "form"))),
+    "one": (BadWish, ((("no", ("mark", 4)), (1,)), (None, ()), (("and", A), ()))),
+    "other": (BadWish, ((("no", ("mark", 4)), (1,)), (None, ()), (("and", A), ()))),
+    "wishes": (BadWish, (((A, ("no", ("mark", 4))), (1, 1)), (None, ()), ((), ()), ((A, None), (1,)))),
+    "standing": (BadNumber, ((4, 4), (-1, -1), (None, None))),
+    "mark": (BadNumber, ((4, 4), (-1, -1), (None, None))),
+    "row": (BadRow, (((0, 1, 2, 0), 3), (None, None), ([1], 0))),
+    "word": (BadNumber, (("yes", "yes"), ("", ""), (None, None))),
+    "size": (BadNumber, ((201, 201), (-1, -1), (None, None))),
+}
+WRONG_STANDING = WRONG["standing"]
+# What holds only for one function.
+WRONG_FOR = {
+    "with_way": {"one": WRONG_STANDING, "other": WRONG_STANDING},
 }
 
 
@@ -118,6 +175,11 @@ def good_for(name, names):
     """Arguments that a function takes, in their order."""
     table = {**GOOD, **GOOD_FOR.get(name, {})}
     return [table[parameter] for parameter in names]
+
+
+def wrong_for(name, parameter):
+    """The error of a parameter of a function with some samples, or None."""
+    return WRONG_FOR.get(name, {}).get(parameter, WRONG.get(parameter))
 
 
 def all_functions():
@@ -162,9 +224,9 @@ class TestInterface(Case):
         for name, call, names in all_functions():
             args = good_for(name, names)
             for at, parameter in enumerate(names):
-                if parameter not in WRONG:
+                if wrong_for(name, parameter) is None:
                     continue
-                error, samples = WRONG[parameter]
+                error, samples = wrong_for(name, parameter)
                 for value, field in samples:
                     self.refuses(error, field, call, *args[:at], value, *args[at + 1:])
                     # Whatever is wrong further behind is not told.
@@ -179,30 +241,39 @@ class TestInterface(Case):
     def test_wrong_of_every_kind(self):
         for name, call, names in all_functions():
             for at, parameter in enumerate(names):
-                if parameter not in WRONG:
+                if wrong_for(name, parameter) is None:
                     continue
-                error, _ = WRONG[parameter]
+                error, _ = wrong_for(name, parameter)
                 for value in ODD + TRUTHS:
+                    # A list can be a begin.
+                    if parameter == "row" and isinstance(value, list):
+                        continue
                     args = good_for(name, names)
                     args[at] = value
                     with self.assertRaises(error) as caught:
                         call(*args)
                     self.assertIs(caught.exception.__class__, error)
                     field = list(vars(caught.exception).values())[0]
-                    if error in (BadMachine, BadWish):
-                        self.assertEqual(field, ())
-                    elif error is BadPaper:
-                        self.assertEqual(field, "form")
-                    else:
-                        self.assertIs(field, value)
+                    self.told_of_odd(error, value, field)
+
+    def told_of_odd(self, error, value, field):
+        """What is told of an odd value."""
+        if error in (BadMachine, BadWish):
+            self.assertEqual(field, ())
+        elif error is BadPaper:
+            self.assertEqual(field, "form")
+        elif error is BadRow:
+            self.assertIsNone(field)
+        else:
+            self.assertIs(field, value)
 
     def test_refused_again(self):
         for name, call, names in all_functions():
             for at, parameter in enumerate(names):
-                if parameter in WRONG:
+                if wrong_for(name, parameter) is not None:
                     good = good_for(name, names)
                     args = list(good)
-                    args[at] = WRONG[parameter][1][0][0]
+                    args[at] = wrong_for(name, parameter)[1][0][0]
                     first = outcome(call, *args)
                     self.assertNotEqual(first[0], "returns")
                     self.assertEqual(first, outcome(call, *args))

@@ -4,7 +4,7 @@ import unittest
 
 from idlewishes.errors import BadPath, BadWish
 from idlewishes.wishes import (
-    hardened, is_plain, need_path, need_wish, part_at, paths, replaced, timed_parts, worst,
+    hardened, is_plain, marks_in, need_path, need_wish, need_wishes, part_at, paths, replaced, timed_parts, worst,
 )
 from tests.samples import (
     A, AGREEING, B, FALSE, FAR, GREAT, GRUDGING, ODD, TRUE, TRUTHS, Case, joined, nested,
@@ -153,6 +153,27 @@ class TestNeedWish(Case):
         self.wrong((1,) * 5 + (2,), nested("next", 5, ("and", A, None)))
         # What only looks like a timed part is none.
         self.wrong((1,) * 5, nested("next", 5, ("till", A)))
+
+
+class TestSeveralWishes(Case):
+    def test_need_wishes(self):
+        for many in range(1, 7):
+            wishes = some_wishes(17, many)
+            self.assertEqual(self.same_again(need_wishes, tuple(wishes)), tuple(wishes))
+            self.refuses(BadWish, (), need_wishes, wishes)
+        self.refuses(BadWish, (), need_wishes, ())
+        self.refuses(BadWish, (), need_wishes, (A,) * 7)
+
+    def test_the_number_ahead_of_the_path(self):
+        for value in FORMLESS:
+            self.refuses(BadWish, (0,), need_wishes, (value,))
+            self.refuses(BadWish, (1, 2, 1), need_wishes, (A, ("or", A, ("no", value)), value))
+        self.refuses(BadWish, (2,), need_wishes, (A, B, nested("next", 6)))
+
+    def test_marks_in(self):
+        self.assertEqual(marks_in(TRUE), [])
+        self.assertEqual(marks_in(ASKED), [0, 1, 2])
+        self.assertEqual(marks_in(("and", ("mark", 3), ("or", A, ("no", ("mark", 3))))), [0, 3])
 
 
 class TestPaths(Case):
