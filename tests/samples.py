@@ -6,7 +6,7 @@ import random
 import unittest
 from functools import lru_cache
 
-from idlewishes.errors import WishError
+from idlewishes.errors import BadText, WishError
 
 
 class Blank:
@@ -89,6 +89,13 @@ class Case(unittest.TestCase):
         self.assertEqual(fields, [field])
         # True equals 1, but is no number.
         self.assertEqual(repr(fields), repr([field]))
+
+    def refuses_text(self, line, word, call, *args):
+        """BadText is raised with just this line and word."""
+        with self.assertRaises(BadText) as caught:
+            call(*args)
+        self.assertIs(caught.exception.__class__, BadText)
+        self.assertEqual(repr(vars(caught.exception)), repr({"line": line, "word": word}))
 
     def refuses_itself(self, error, value, call, *args):
         """The very error is raised, its one field being the very value."""

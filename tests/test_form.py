@@ -17,6 +17,14 @@ BUILTINS = """
     OverflowError RuntimeError NotImplementedError StopIteration
 """.split()
 
+# Words that stand nowhere in the program.
+BARRED = """
+    register mro elements open input law version_info with_traceback add_note type typing typing_extensions enum Enum
+    IntEnum StrEnum Flag IntFlag Generic Protocol ABC ABCMeta namedtuple NamedTuple TypedDict TYPE_CHECKING
+    abstractmethod dataclass overload contextmanager attrgetter breakpoint compile delattr dir eval exec exit gc
+    getattr globals hasattr help id importlib license locals os quit setattr vars format sort sys
+""".split()
+
 
 def trees():
     """Each file of the package with its tree."""
@@ -95,6 +103,90 @@ class TestForm(unittest.TestCase):
             for node in ast.walk(tree):
                 if isinstance(node, ast.Name) and hasattr(builtins, node.id):
                     self.assertIn(node.id, BUILTINS, (file, node.lineno))
+
+    def test_nothing_that_is_left_out(self):
+        barred = (
+            ast.GeneratorExp, ast.Global, ast.AsyncFunctionDef, ast.AsyncFor, ast.AsyncWith, ast.Await, ast.Yield,
+            ast.YieldFrom, ast.Div, ast.MatMult, ast.Delete, ast.Match,
+        )
+        for file, tree in trees():
+            for node in ast.walk(tree):
+                self.assertNotIsInstance(node, barred, (file, getattr(node, "lineno", None)))
+                if isinstance(node, ast.Constant):
+                    self.assertNotIsInstance(node.value, (float, complex, bytes), (file, node.lineno))
+                if isinstance(node, ast.ClassDef):
+                    self.assertEqual(node.decorator_list, [], (file, node.lineno))
+                if isinstance(node, ast.FunctionDef):
+                    told = [decorator.id for decorator in node.decorator_list]
+                    self.assertIn(told, ([], ["property"]), (file, node.lineno))
+
+    def test_barred_words(self):
+        for file, tree in trees():
+            names = {node.id for node in ast.walk(tree) if isinstance(node, ast.Name)}
+            names |= {node.attr for node in ast.walk(tree) if isinstance(node, ast.Attribute)}
+            names |= {node.arg for node in ast.walk(tree) if isinstance(node, ast.arg)}
+            names |= {node.name for node in ast.walk(tree) if isinstance(node, (ast.FunctionDef, ast.ClassDef))}
+            self.assertFalse(names & set(BARRED), file)
+            strings = [
+                node.value for node in ast.walk(tree) if isinstance(node, ast.Constant) and isinstance(node.value, str)
+            ]
+            docstrings = [
+                ast.get_docstring(node, clean=False) for node in ast.walk(tree)
+                if isinstance(node, (ast.Module, ast.FunctionDef, ast.ClassDef))
+            ]
+            for text in strings:
+                if text not in docstrings:
+                    self.assertFalse(set(text.split()) & set(BARRED) - {"open"}, (file, text))
+                    self.assertFalse(text.endswith(("._", ".__")), (file, text))
+
+    def test_names_mean_one_thing(self):
+        for file, tree in trees():
+            fixed = {name for _, name in imported(tree)}
+            fixed |= {node.name for node in tree.body if isinstance(node, ast.ClassDef)} | set(dir(builtins))
+            for node in ast.walk(tree):
+                if isinstance(node, ast.arg):
+                    self.assertNotIn(node.arg, fixed, (file, node.lineno))
+                if isinstance(node, ast.Name) and isinstance(node.ctx, ast.Store):
+                    self.assertNotIn(node.id, fixed, (file, node.lineno))
+            bound = [name for _, name in imported(tree)]
+            for node in tree.body:
+                if isinstance(node, (ast.FunctionDef, ast.ClassDef)):
+                    bound.append(node.name)
+                if isinstance(node, ast.Assign):
+                    bound += [target.id for target in node.targets]
+            self.assertEqual(len(bound), len(set(bound)), file)
+
+    def test_methods_and_attributes_have_unlike_names(self):
+        methods, stored, read = [], set(), []
+        for _, tree in trees():
+            for node in ast.walk(tree):
+                if isinstance(node, ast.ClassDef):
+                    methods += [part.name for part in node.body if isinstance(part, ast.FunctionDef)]
+                if isinstance(node, ast.Attribute) and isinstance(node.ctx, ast.Store):
+                    stored.add(node.attr)
+                elif isinstance(node, ast.Attribute):
+                    read.append(node.attr)
+        self.assertFalse(stored & set(methods))
+        builtin = set(dir(str) + dir(list) + dir(dict) + dir(set) + dir(int) + dir(bytes) + dir(tuple))
+        self.assertFalse(stored & builtin)
+        self.assertLessEqual(set(read), stored | set(methods) | builtin)
+
+    def test_sets_stand_in_sorted_alone(self):
+        for file, tree in trees():
+            inner = [
+                node.args[0] for node in ast.walk(tree)
+                if isinstance(node, ast.Call) and isinstance(node.func, ast.Name) and node.func.id == "sorted"
+            ]
+            for node in ast.walk(tree):
+                if isinstance(node, (ast.Set, ast.SetComp)):
+                    self.assertIn(node, inner, (file, node.lineno))
+
+    def test_what_others_use_has_docstrings(self):
+        for file, tree in trees():
+            self.assertIsNotNone(ast.get_docstring(tree), file)
+            for node in tree.body:
+                if isinstance(node, (ast.FunctionDef, ast.ClassDef)) and not node.name.startswith("_"):
+                    self.assertIsNotNone(ast.get_docstring(node), (file, node.name))
 
 
 if __name__ == "__main__":

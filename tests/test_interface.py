@@ -4,10 +4,11 @@ import inspect
 import unittest
 
 from idlewishes import (
-    beside, errors, idle, keeping, lots, machines, monitors, shortest, touched, twice, values, wishes,
+    beside, desk, errors, idle, keeping, logs, lots, machines, monitors, shortest, texts, touched, twice, values,
+    watch, wishes,
 )
 from idlewishes.errors import (
-    BadMachine, BadNumber, BadPaper, BadPath, BadRow, BadRun, BadWish, TooGreat, WishError,
+    BadLog, BadMachine, BadMenu, BadNumber, BadPaper, BadPath, BadRow, BadRun, BadText, BadWish, TooGreat, WishError,
 )
 from tests.samples import A, FALSE, LASSO, ODD, TRUTHS, Case, outcome
 
@@ -104,6 +105,18 @@ FUNCTIONS = {
         "is_always_told": ("machine", "wish"),
         "count_rows": ("machine", "wish", "size", "word"),
     },
+    logs: {
+        "fitting_wishes": ("machine", "menu", "log"),
+        "first_false": ("machine", "menu", "log"),
+    },
+    texts: {
+        "machine_text": ("machine",),
+        "wish_text": ("wish",),
+        "run_text": ("machine", "run"),
+        "read_machine": ("text",),
+        "read_wish": ("text",),
+        "read_run": ("machine", "text"),
+    },
 }
 CLASSES = {
     "WishError": None,
@@ -136,6 +149,8 @@ GOOD = {
     "row": (0, 1, 2, 1),
     "word": "kept",
     "size": 4,
+    "menu": (A, ("next", A), ("ever", ("mark", 1))),
+    "log": [(((0,), (1, 2)), True), (((0, 1), (2, 1)), True), (((0,), (1, 2)), False)],
 }
 # What holds only for one function.
 GOOD_FOR = {
@@ -144,6 +159,9 @@ GOOD_FOR = {
     "check_moments": {"paper": twice.moments_paper(GOOD["machine"], GOOD["wish"], GOOD["part"])},
     "with_way": {"one": 1, "other": 0},
     "is_apart_run": {"value": (((0,), (1,)), ((0, 1),))},
+    "read_machine": {"text": texts.machine_text(GOOD["machine"])},
+    "read_wish": {"text": texts.wish_text(GOOD["wish"])},
+    "read_run": {"text": texts.run_text(GOOD["machine"], GOOD["run"])},
 }
 # For each parameter the error that is raised, and wrong values with the field that is told.
 WRONG = {
@@ -163,6 +181,8 @@ WRONG = {
     "row": (BadRow, (((0, 1, 2, 0), 3), (None, None), ([1], 0))),
     "word": (BadNumber, (("yes", "yes"), ("", ""), (None, None))),
     "size": (BadNumber, ((201, 201), (-1, -1), (None, None))),
+    "menu": (BadMenu, (((A, ("no", None)), 1), (None, None), ((), None))),
+    "log": (BadLog, (([(((0,), (1, 2)), 1)], 0), (None, None), (((((0,), (1, 2)), True), None), 1))),
 }
 WRONG_STANDING = WRONG["standing"]
 # What holds only for one function.
@@ -189,7 +209,46 @@ def all_functions():
             yield name, getattr(module, name), names
 
 
+# Each class with what it is made of, and what it defines itself.
+MADE = {
+    watch.Watch: (
+        ("machine", "wish"), ("model", "asked", "row"),
+        {
+            "tells": (), "choices": (), "step": ("standing",), "undo": (), "redo": (), "copy": (), "trial": (),
+            "__len__": (), "__eq__": ("other",),
+        },
+    ),
+    desk.Desk: (("text", "wish"), ("watch",), {"say": ("line",)}),
+}
+
+
 class TestInterface(Case):
+    def test_classes(self):
+        for made, (names, read, methods) in MADE.items():
+            self.assertEqual(tuple(inspect.signature(made).parameters), names)
+            for name in read:
+                self.assertIsInstance(vars(made)[name], property)
+            for name, told in methods.items():
+                self.assertTrue(inspect.isfunction(vars(made)[name]), name)
+                self.assertEqual(tuple(inspect.signature(vars(made)[name]).parameters)[1:], told, name)
+        self.assertEqual(watch.Watch.__module__, "idlewishes.watch")
+        self.assertEqual(watch.under.__module__, "idlewishes.watch")
+        self.assertEqual(tuple(inspect.signature(watch.under).parameters), ("manager", "deed"))
+        self.assertEqual(desk.Desk.__module__, "idlewishes.desk")
+
+    def test_no_state_is_kept(self):
+        # No state is kept: what was asked ahead changes no answer.
+        told = [outcome(call, *good_for(name, names)) for name, call, names in all_functions()]
+        again = [outcome(call, *good_for(name, names)) for name, call, names in list(all_functions())[::-1]]
+        self.assertEqual(told, again[::-1])
+        self.assertTrue(all(word == "returns" for word, _ in told))
+
+    def test_texts_are_refused_behind_the_machine(self):
+        for value in (None, "", "ahead"):
+            self.refuses(BadMachine, (), texts.read_run, None, value)
+        with self.assertRaises(BadText):
+            texts.read_run(LASSO, "ahead 0")
+
     def test_defined_in_their_files(self):
         for module, table in FUNCTIONS.items():
             for name in table:
@@ -245,8 +304,8 @@ class TestInterface(Case):
                     continue
                 error, _ = wrong_for(name, parameter)
                 for value in ODD + TRUTHS:
-                    # A list can be a begin.
-                    if parameter == "row" and isinstance(value, list):
+                    # A list can be a begin, or a log.
+                    if parameter in ("row", "log") and isinstance(value, list):
                         continue
                     args = good_for(name, names)
                     args[at] = value
@@ -262,7 +321,7 @@ class TestInterface(Case):
             self.assertEqual(field, ())
         elif error is BadPaper:
             self.assertEqual(field, "form")
-        elif error is BadRow:
+        elif error in (BadRow, BadMenu, BadLog):
             self.assertIsNone(field)
         else:
             self.assertIs(field, value)
