@@ -6,10 +6,7 @@ from idlewishes.keeping import Nodes, bands_behind, can_stay
 from idlewishes.machines import need_machine
 from idlewishes.wishes import need_wish
 
-KEPT = "kept"
-BROKEN = "broken"
-OPEN = "open"
-WORDS = (KEPT, BROKEN, OPEN)
+WORDS = ("kept", "broken", "open")
 MOST_ROW = 2000
 MOST_SIZE = 200
 
@@ -79,7 +76,7 @@ def is_always_told(machine, wish):
     after = _explored(teller)
     # What goes on comes to a band that cannot be left. What is told stays so: there all of a band is told, or none.
     bands = bands_behind(after, [teller.first])
-    return all([word_of(band[0]) != OPEN or _can_be_left(after, band) for band in bands])
+    return all([word_of(band[0]) != "open" or _can_be_left(after, band) for band in bands])
 
 
 def count_rows(machine, wish, size, word):
@@ -105,10 +102,10 @@ def word_of(state):
     """The word of a begin behind which a state is."""
     _, told = state
     if all(told):
-        return KEPT
+        return "kept"
     if any(told):
-        return OPEN
-    return BROKEN
+        return "open"
+    return "broken"
 
 
 def _need_row(machine, row):

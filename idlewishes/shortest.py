@@ -22,11 +22,12 @@ def _shortest_against(machine, wish):
     """A run with as few standings as any that does not keep the wish, or None; nothing is checked."""
     nodes = Nodes(machine, wish)
     inside = _inside(nodes)
+    rows = _rows_ahead(nodes)
     best = None
     most = MOST_TOGETHER
     # The same parts are so each time when a run comes round, so its nodes come back where its standings do:
     # a shortest run is a shortest way of nodes to a shortest ring of nodes.
-    for first, ahead in _rows_ahead(nodes).items():
+    for first, ahead in rows.items():
         if first in inside and len(ahead) < most:
             ring = _shortest_ring(nodes, inside, first, most - len(ahead))
             if ring is not None:
